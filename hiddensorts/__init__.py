@@ -1,0 +1,1 @@
+"""Hidden sorts behind looks that were seen two by two, in exact ratios."""

@@ -1,0 +1,147 @@
+"""Each door that takes a spot, a row, a sort, a lot or a look refuses wrong ones and lets good ones through."""
+
+import unittest
+
+from hiddensorts.apart import independent, is_sure, told_apart
+from hiddensorts.errors import BadLook, BadLot, BadPiece, BadSort, BadSpot, BadWalk
+from hiddensorts.giving import bend, cov, given_world, lean, row_bend, split
+from hiddensorts.lots import asking_of, lot_of, spot_of
+from hiddensorts.making import made_by_parts
+from hiddensorts.parts import part, twist
+from hiddensorts.tables import Table
+from hiddensorts.throwing import may_throw, thrown
+from hiddensorts.walks import along
+from hiddensorts.webs import Web
+from hiddensorts.worlds import World
+from tests.tools import NO_INTEGERS, NO_LISTS, random_world
+
+WORLD = random_world(161, (2, 3, 2, 2), 2, low=1)
+SIGHTS = WORLD.sights_of([(0, 1, 2), (2, 3)])
+TABLE = WORLD.made((0, 1, 2))
+WEB = Web(SIGHTS)
+
+WRONG_SPOTS = NO_LISTS + [(), (0,), (0, 0, 0), (4, 0), (-1, 0), (0, 2), (1, 3), (0, -1), (True, 0), (0, False),
+                          ("0", 0), (0, None), (0.0, 0), [[0], 0]]
+WRONG_LOTS = [(None, -1), (7, -1), ("0", -1), ({0: 1}, -1), ([4], 0), ([-1], 0), ([True], 0), ([None, 9], 0),
+              ([0, 4], 1), ([1, 0], 1), ([0, 1, 0], 2), ([0, 2, "3"], 2), ([0, [1]], 1), ([0, 1.0], 1)]
+
+SPOT_DOORS = {
+    "spot_of": lambda x: spot_of(x, (2, 3, 2, 2)), "Table.given": TABLE.given, "Sights.single": SIGHTS.single,
+    "link of x": lambda x: SIGHTS.link(x, (1, 0)), "link of y": lambda x: SIGHTS.link((1, 0), x),
+    "twist of x": lambda x: twist(SIGHTS, x, (1, 0), (2, 0)), "twist of y": lambda x: twist(SIGHTS, (1, 0), x, (2, 0)),
+    "twist of z": lambda x: twist(SIGHTS, (1, 0), (2, 0), x), "World.chance_at": lambda x: WORLD.chance_at(0, x),
+    "World.single": WORLD.single, "given_world": lambda x: given_world(WORLD, x), "split": lambda x: split(WORLD, x),
+    "lean": lambda x: lean(WORLD, x), "bend": lambda x: bend(WORLD, x), "cov of y": lambda x: cov(WORLD, x, (1, 0)),
+    "cov of z": lambda x: cov(WORLD, (1, 0), x), "along from x": lambda x: along(SIGHTS, (0, 1), x, (1, 0)),
+    "along to y": lambda x: along(SIGHTS, (1, 0), (1, 0), x),
+}
+ROW_DOORS = {"Table.at": TABLE.at, "part": lambda row: part(TABLE, row),
+             "row_bend": lambda row: row_bend(WORLD, (0, 1, 2), row)}
+SORT_DOORS = {
+    "World.chance_at": lambda s: WORLD.chance_at(s, (0, 0)), "told_apart": lambda s: told_apart(WORLD, s, 0),
+    "told_apart of other": lambda s: told_apart(WORLD, 0, s), "thrown": lambda s: thrown(WORLD, s, 0),
+    "thrown of other": lambda s: thrown(WORLD, 0, s), "may_throw": lambda s: may_throw(WORLD, s, 0),
+    "may_throw of other": lambda s: may_throw(WORLD, 0, s), "renamed": lambda s: WORLD.renamed([0, s]),
+}
+# The lots, behind the wrong ones that all doors share, are good ones and further wrong ones with their places.
+LOT_DOORS = {
+    "lot_of": (lambda lot: lot_of(lot, 4), [(), (0,), (0, 3)], [([0, 0], 1)]),
+    "asking_of": (lambda lot: asking_of(lot, 4), [(), (0, 0), (0, 3, 3)], []),
+    "Table": (lambda lot: Table(lot, (2, 2, 2, 2), [(1, 4)] * 4), [(0, 0), (0, 3), (3, 3)], [([], -1)]),
+    "left_to": (TABLE.left_to, [(0,), (0, 2), (0, 1, 2)], [([], -1), ([0, 0], 1), ([3], 0), ([0, 1, 3], 2)]),
+    "sees": (SIGHTS.sees, [(), (0,), (0, 3)], [([0, 0], 1)]),
+    "in": (lambda lot: lot in SIGHTS, [(), (3,), (0, 1)], [([0, 0], 1)]),
+    "Sights.table": (SIGHTS.table, [(0,), (0, 1), (0, 1, 2)], [([], -1), ([0, 0], 1)]),
+    "adding": (lambda lot: SIGHTS.adding(lot, WORLD.made(lot).entries if isinstance(lot, tuple) and lot else None),
+               [(0, 1), (0, 3)], [([], -1), ([0], -1), ([0, 0], 1)]),
+    "made": (WORLD.made, [(0,), (0, 0), (1, 3)], [([], -1)]),
+    "sights_of": (lambda lot: WORLD.sights_of([(0, 1), lot]), [(0, 1), (1, 2, 3)],
+                  [([], -1), ([0], -1), ([0, 0], 1)]),
+    "made_by_parts": (lambda lot: made_by_parts(WORLD, lot), [(0,), (0, 0), (1, 3)], [([], -1)]),
+    "row_bend": (lambda lot: row_bend(WORLD, lot, [0] * len(lot) if isinstance(lot, tuple) else None),
+                 [(), (0,), (1, 3)], [([0, 0], 1)]),
+    "is_sure": (lambda lot: is_sure(WORLD, lot), [(), (0,), (1, 3)], [([0, 0], 1)]),
+    "independent, first": (lambda lot: independent(WORLD, lot, (3,), ()), [(0,), (0, 2)],
+                           [([], -1), ([0, 0], 1), ([3], -1)]),
+    "independent, second": (lambda lot: independent(WORLD, (3,), lot, ()), [(0,), (0, 2)],
+                            [([], -1), ([0, 0], 1), ([3], -1)]),
+    "independent, rest": (lambda lot: independent(WORLD, (3,), (2,), lot), [(), (0,), (0, 1)],
+                          [([0, 0], 1), ([3], -1), ([1, 2], -1)]),
+}
+LOOK_DOORS = {"piece_of": WEB.piece_of, "steps": WEB.steps, "walk": lambda look: WEB.walk(look, 0, True),
+              "walk to other": lambda look: WEB.walk(0, look, False)}
+LOT_0_DOORS = {"Sights.without": SIGHTS.without, "World.without": WORLD.without,
+               "mixed": lambda look: WORLD.mixed(look, [[0], [1, 2]] if look == 1 else [[1], [0]])}
+
+
+class DoorsTest(unittest.TestCase):
+
+    def test_spots(self):
+        for name, door in SPOT_DOORS.items():
+            for spot in WRONG_SPOTS:
+                with self.subTest(door=name, spot=spot), self.assertRaises(BadSpot):
+                    door(spot)
+            for spot in ((0, 0), (0, 1), [0, 1]):
+                with self.subTest(door=name, spot=spot):
+                    door(spot)
+
+    def test_rows(self):
+        for name, door in ROW_DOORS.items():
+            for row in NO_LISTS + [(), (0, 0), (0,) * 4, (2, 0, 0), (0, 3, 0), (0, 0, -1), (0, True, 0), (None, 0, 0)]:
+                with self.subTest(door=name, row=row), self.assertRaises(BadSpot):
+                    door(row)
+            for row in ((0, 0, 0), [1, 2, 1]):
+                with self.subTest(door=name, row=row):
+                    door(row)
+
+    def test_sorts(self):
+        for name, door in SORT_DOORS.items():
+            for sort in NO_INTEGERS + [2, -1]:
+                with self.subTest(door=name, sort=sort), self.assertRaises(BadSort):
+                    door(sort)
+            with self.subTest(door=name):
+                door(1)
+
+    def test_lots(self):
+        for name, (door, good, wrong) in LOT_DOORS.items():
+            for lot, place in WRONG_LOTS + wrong:
+                with self.subTest(door=name, lot=lot):
+                    with self.assertRaises(BadLot) as caught:
+                        door(lot)
+                    self.assertEqual(caught.exception.place, place)
+            for lot in good:
+                with self.subTest(door=name, lot=lot):
+                    door(lot)
+
+    def test_looks(self):
+        for name, door in LOOK_DOORS.items():
+            for look in NO_INTEGERS + [4, -1]:
+                with self.subTest(door=name, look=look), self.assertRaises(BadLook):
+                    door(look)
+            for look in range(4):
+                door(look)
+        for name, door in LOT_0_DOORS.items():
+            for look in NO_INTEGERS + [4, -1]:
+                with self.subTest(door=name, look=look):
+                    with self.assertRaises(BadLot) as caught:
+                        door(look)
+                    self.assertEqual(caught.exception.place, 0)
+            for look in range(4):
+                door(look)
+
+    def test_pieces_and_walks(self):
+        for number in NO_INTEGERS + [1, -1]:
+            for door in (WEB.is_ringed, WEB.sides_of):
+                with self.assertRaises(BadPiece):
+                    door(number)
+        for look in NO_INTEGERS + [4, -1, 0, 3]:
+            with self.assertRaises(BadWalk) as caught:
+                along(SIGHTS, (0, look), (0, 0), (0, 0))
+            self.assertEqual(caught.exception.place, 1)
+        self.assertEqual(len(WEB.pieces), 1)
+        self.assertIsInstance(WORLD, World)
+        self.assertTrue(WEB.is_ringed(0))
+
+
+if __name__ == "__main__":
+    unittest.main()
