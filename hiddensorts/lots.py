@@ -84,11 +84,26 @@ def row_count(asking, sizes):
     return many
 
 
-def rows_in_order(asking, sizes):
-    """Yield the rows of an asking, the last place going fastest."""
+def all_rows(asking, sizes):
+    """The rows of an asking, the last place going fastest, a list."""
+    # Operators take their rows from here, as what they run may not yield (L5).
     rows = [()]
     for look in asking:
         rows = [row + (answer,) for row in rows for answer in range(sizes[look])]
+    return rows
+
+
+def row_index(row, asking, sizes):
+    """The index of a row of an asking in the order of rows. The answers are not judged."""
+    index = 0
+    for look, answer in zip(asking, row):
+        index = index * sizes[look] + answer
+    return index
+
+
+def rows_in_order(asking, sizes):
+    """Yield the rows of an asking, the last place going fastest."""
+    rows = all_rows(asking, sizes)
     yield from rows
 
 

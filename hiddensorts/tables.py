@@ -1,7 +1,8 @@
 """Tables of askings."""
 
 from hiddensorts.errors import BadLot, BadTable, NeverMet, NotSeen, OtherSizes
-from hiddensorts.lots import asking_of, lot_of, row_count, row_of, rows_in_order, sizes_of, spot_of
+from hiddensorts.lots import (all_rows, asking_of, lot_of, row_count, row_index, row_of, rows_in_order, sizes_of,
+                              spot_of)
 from hiddensorts.ratios import as_ratio, is_list, is_number, over, sign_of, times, total
 
 
@@ -56,16 +57,15 @@ class Table:
         # No look is in both askings, so the look tells of which table a place is.
         mine = [place for place, look in enumerate(asking) if look in self.asking]
         theirs = [place for place, look in enumerate(asking) if look in other.asking]
-        entries = [times(self.at(at_places(row, mine)), other.at(at_places(row, theirs)))
-                   for row in rows_in_order(asking, self.sizes)]
+        rows = all_rows(asking, self.sizes)
+        entries = [times(self.entries[row_index(at_places(row, mine), self.asking, self.sizes)],
+                         other.entries[row_index(at_places(row, theirs), other.asking, other.sizes)])
+                   for row in rows]
         return Table(asking, self.sizes, entries)
 
     def at(self, row):
         """The entry at a row."""
-        index = 0
-        for look, answer in zip(self.asking, row_of(row, self.asking, self.sizes)):
-            index = index * self.sizes[look] + answer
-        return self.entries[index]
+        return self.entries[row_index(row_of(row, self.asking, self.sizes), self.asking, self.sizes)]
 
     def left_to(self, lot):
         """The Table left out to a lot: of each look of the lot the first place is kept."""

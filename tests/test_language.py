@@ -58,6 +58,95 @@ def bound_names(function):
     return set(names)
 
 
+SIGNS = {ast.Add: "__add__", ast.Sub: "__sub__", ast.Mult: "__mul__", ast.Eq: "__eq__", ast.NotEq: "__eq__",
+         ast.In: "__contains__", ast.NotIn: "__contains__", ast.USub: "__neg__"}
+CHANGING = {"append", "clear", "extend", "insert", "pop", "remove", "reverse", "setdefault", "sort", "update"}
+FRESH = (ast.List, ast.Dict, ast.ListComp, ast.DictComp)
+
+
+class Package:
+    """What an operator or a property runs, as far as the names in the code tell: a method stands for each class's."""
+
+    def __init__(self, found):
+        self.named = {}
+        for tree in found:
+            for node in ast.walk(tree):
+                if isinstance(node, ast.FunctionDef):
+                    self.named.setdefault(node.name, []).append(node)
+                if isinstance(node, ast.ClassDef):
+                    self.named.setdefault(node.name, []).extend(
+                        child for child in node.body if getattr(child, "name", "") == "__init__")
+
+    def starts(self):
+        """The operators, properties, __eq__ and __len__."""
+        words = set(SIGNS.values()) | {"__len__", "__str__", "__repr__"}
+        return [function for functions in self.named.values() for function in functions
+                if function.name in words or is_property(function)]
+
+    def run_by(self, starts):
+        """The functions and methods that these ones run, themselves too."""
+        found, waiting = [], list(starts)
+        while waiting:
+            function = waiting.pop()
+            if function not in found:
+                found.append(function)
+                for word in run_words(function):
+                    waiting += self.named.get(word, [])
+                read = [run for word in read_words(function) for run in self.named.get(word, [])]
+                waiting += [run for run in read if is_property(run)]
+        return found
+
+
+def is_property(function):
+    return any(isinstance(mark, ast.Name) and mark.id == "property" for mark in function.decorator_list)
+
+
+def run_words(function):
+    """The names and methods that a function calls, those behind signs too."""
+    words = called_names(function)
+    words |= {node.func.attr for node in ast.walk(function)
+              if isinstance(node, ast.Call) and isinstance(node.func, ast.Attribute)}
+    signs = {type(node) for node in ast.walk(function)}
+    return words | {SIGNS[sign] for sign in signs & set(SIGNS)} | ({"__len__"} if "len" in words else set())
+
+
+def read_words(function):
+    return {node.attr for node in ast.walk(function) if isinstance(node, ast.Attribute)}
+
+
+def called_names(function):
+    return {node.func.id for node in ast.walk(function)
+            if isinstance(node, ast.Call) and isinstance(node.func, ast.Name)}
+
+
+def is_fresh(value):
+    """Whether an expression is a list or a dict that is made on the spot."""
+    return isinstance(value, FRESH) or (isinstance(value, ast.Call) and isinstance(value.func, ast.Name)
+                                        and value.func.id in ("list", "dict", "sorted"))
+
+
+def changes_of(function):
+    """The rows in which a function changes what it did not create itself; an __init__ sets its own attributes."""
+    given = {}
+    for node in ast.walk(function):
+        if isinstance(node, ast.Assign):
+            for target in node.targets:
+                if isinstance(target, ast.Name):
+                    given.setdefault(target.id, []).append(is_fresh(node.value))
+    own = {name for name, values in given.items() if all(values)}
+    rows = []
+    for node in ast.walk(function):
+        if isinstance(node, (ast.Attribute, ast.Subscript)) and isinstance(node.ctx, (ast.Store, ast.Del)):
+            root = node.value.id if isinstance(node.value, ast.Name) else None
+            builds = function.name == "__init__" and root == "self" and isinstance(node, ast.Attribute)
+            if not builds and not (isinstance(node, ast.Subscript) and root in own):
+                rows.append(node.lineno)
+        if isinstance(node, ast.Call) and isinstance(node.func, ast.Attribute) and node.func.attr in CHANGING:
+            if not (isinstance(node.func.value, ast.Name) and node.func.value.id in own):
+                rows.append(node.lineno)
+    return rows
+
+
 class LanguageTest(unittest.TestCase):
 
     def test_files(self):
@@ -226,6 +315,39 @@ class LanguageTest(unittest.TestCase):
         iterated = isinstance(parent, (ast.For, ast.comprehension)) and parent.iter is node
         self.assertTrue(iterated or called in ("list", "tuple", "dict", "zip", "enumerate")
                         or isinstance(parent, ast.YieldFrom), where)
+
+    def test_operators_and_properties_change_nothing(self):
+        package = Package([tree for _, _, tree in trees()])
+        self.assertEqual({function.name for function in package.starts()} - {"__add__", "__mul__", "__contains__"},
+                         {"__eq__", "__len__", "fair", "free"})
+        run = package.run_by(package.starts())
+        self.assertLess({"times", "sees", "_teller", "_comes_back", "__init__", "sizes_of"},
+                        {function.name for function in run})
+        for function in run:
+            where = f"row {function.lineno}: {function.name}"
+            self.assertFalse(is_generator(function), f"{where} yields")
+            self.assertEqual(changes_of(function), [], where)
+            self.assertFalse(called_names(function) & bound_names(function), where)
+
+    def test_the_test_of_operators_sees_what_it_must_refuse(self):
+        tree = ast.parse(
+            "def steps(xs):\n    yield xs\n"
+            "def kept(xs):\n    xs.append(1)\n    return xs\n"
+            "def fresh(xs):\n    ys = list(xs)\n    ys.append(1)\n    return ys\n"
+            "class Box:\n"
+            "    def rows(self):\n        return [x for x in steps(self.xs)]\n"
+            "    def __add__(self, other):\n        return self.rows()\n"
+            "    def __mul__(self, other):\n        return kept(fresh(other))\n"
+            "    def __sub__(self, other):\n        self.n = other\n        self.m[0] = 1\n        return self\n")
+        for node in ast.walk(tree):
+            for child in ast.iter_child_nodes(node):
+                child.parent = node
+        package = Package([tree])
+        found = {start.name: package.run_by([start]) for start in package.starts()}
+        self.assertEqual([run.name for run in found["__add__"] if is_generator(run)], ["steps"])
+        self.assertEqual({run.name: len(changes_of(run)) for run in found["__mul__"]},
+                         {"__mul__": 0, "kept": 1, "fresh": 0})
+        self.assertEqual([len(changes_of(run)) for run in found["__sub__"]], [2])
 
     def test_errors_derive_from_one_base(self):
         tree = ast.parse((PACKAGE / "errors.py").read_text(encoding="utf-8"))

@@ -194,6 +194,29 @@ class ProductTest(unittest.TestCase):
             table * random_table(16, (1,), (2, 2))
         self.assertEqual(caught.exception.place, -1)
 
+    def test_other_sizes_are_refused_before_a_common_look(self):
+        with self.assertRaises(OtherSizes):
+            random_table(18, (0, 1), (2, 2)) * random_table(19, (1,), (2, 3))
+        with self.assertRaises(OtherSizes):
+            random_table(18, (0, 1), (2, 2)) * random_table(19, (1,), (2, 2, 2))
+        for one, two in (((0, 2), (1, 2)), ((1, 1), (0, 1)), ((0,), (0,))):
+            with self.assertRaises(BadLot) as caught:
+                random_table(20, one, (2, 3, 2)) * random_table(21, two, (2, 3, 2))
+            self.assertEqual(caught.exception.place, -1)
+
+    def test_looks_that_lie_between_each_other(self):
+        sizes = (2, 3, 2, 3, 2)
+        one = random_table(22, (0, 2, 2, 4), sizes, low=-2)
+        two = random_table(23, (1, 3), sizes, low=-2)
+        both = one * two
+        self.assertEqual(both.asking, (0, 1, 2, 2, 3, 4))
+        self.assertEqual(both, two * one)
+        for row, entry in zip(rows(both.asking, sizes), both.entries):
+            mine, theirs = (row[0], row[2], row[3], row[5]), (row[1], row[4])
+            self.assertEqual(entry, ratio(fraction(one.at(mine)) * fraction(two.at(theirs))))
+        self.assertIs(type(both), Table)
+        self.assertTrue(as_it_looks((both.asking, both.sizes, both.entries)))
+
     def test_what_a_product_is_left_to(self):
         world = random_world(17, (2, 3, 2), 3)
         one, two = world.made((0, 1)), world.made((2,))
