@@ -1,8 +1,9 @@
 """What odd walks tell."""
 
 from hiddensorts.errors import BadWalk
+from hiddensorts.links import links_of, told_along
 from hiddensorts.lots import is_below, spot_in
-from hiddensorts.ratios import is_list, over, times
+from hiddensorts.ratios import is_list
 
 
 def walk_of(value, sights):
@@ -18,16 +19,9 @@ def walk_of(value, sights):
     return tuple(value)
 
 
-def look_spots(look, sizes):
-    """The spots of a look, ascending, a list."""
-    return [(look, answer) for answer in range(sizes[look])]
-
-
-def first_linked(sights, look, other):
-    """The least spot of a look with a link not 0 with some spot of a linked one, and the least such spot there."""
-    found = [(spot, far) for spot in look_spots(look, sights.sizes) for far in look_spots(other, sights.sizes)
-             if sights.link(spot, far) != (0, 1)]
-    return found[0]
+def steps_along(walk):
+    """The pairs of looks that a walk goes along, each once, ascending, a list."""
+    return sorted({tuple(sorted([walk[place - 1], walk[place]])) for place in range(1, len(walk))})
 
 
 def along(sights, walk, x, y):
@@ -35,9 +29,4 @@ def along(sights, walk, x, y):
     looks = walk_of(walk, sights)
     spot = spot_in(x, sights.sizes, looks[0])
     last = spot_in(y, sights.sizes, looks[-1])
-    told = (1, 1)
-    for place in range(1, len(looks) - 1, 2):
-        near, far = first_linked(sights, looks[place], looks[place + 1])
-        told = times(told, over(sights.link(spot, near), sights.link(near, far)))
-        spot = far
-    return times(told, sights.link(spot, last))
+    return told_along(links_of(sights, steps_along(looks)), sights.sizes, looks, spot, last)

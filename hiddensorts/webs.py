@@ -14,10 +14,9 @@ def look_of(value, sights):
     return value
 
 
-def steps_of(sights):
-    """For each look the ascending tuple of the looks that it is linked with, a list."""
-    linked = sights.linked()
-    looks = range(len(sights.sizes))
+def steps_by(linked, many):
+    """For each of so many looks the ascending tuple of the looks that it is linked with, a list."""
+    looks = range(many)
     return [tuple([other for other in looks if tuple(sorted([look, other])) in linked]) for look in looks]
 
 
@@ -47,7 +46,7 @@ class Web:
 
     def __init__(self, sights):
         self.sights = sights
-        self._steps = tuple(steps_of(sights))
+        self._steps = tuple(steps_by(sights.linked(), len(sights.sizes)))
         self._walks = tuple([walks_from(look, self._steps) for look in range(len(sights.sizes))])
         joined = [ends_of(walks) for walks in self._walks]
         # A walk that turns back leads to its first look, so the looks joined with a look hold it, unless it is a loner.
@@ -68,12 +67,6 @@ class Web:
         """Whether an odd walk leads from a look of a piece back to it."""
         return (piece[0], ODD) in self._walks[piece[0]]
 
-    def _piece(self, number):
-        """The piece of a number."""
-        if not is_below(number, len(self.pieces)):
-            raise BadPiece()
-        return self.pieces[number]
-
     def piece_of(self, look):
         """The number of the look's piece; -1 for a loner."""
         chosen = look_of(look, self.sights)
@@ -84,11 +77,11 @@ class Web:
 
     def is_ringed(self, number):
         """Whether the piece is ringed."""
-        return self._comes_back(self._piece(number))
+        return self._comes_back(piece_at(self, number))
 
     def sides_of(self, number):
         """The tuple (side A, side B); for a ringed piece (all its looks, ())."""
-        piece = self._piece(number)
+        piece = piece_at(self, number)
         if self._comes_back(piece):
             return (piece, ())
         ends = self._walks[piece[0]]
@@ -103,3 +96,10 @@ class Web:
         """A walk with the fewest steps among the odd (or even) ones with at least one step; None if there is none."""
         ends = self._walks[look_of(look, self.sights)]
         return ends.get((look_of(other, self.sights), ODD if odd else EVEN))
+
+
+def piece_at(web, number):
+    """The piece of a number."""
+    if not is_below(number, len(web.pieces)):
+        raise BadPiece()
+    return web.pieces[number]

@@ -3,22 +3,40 @@
 import unittest
 
 from hiddensorts.apart import independent, is_sure, told_apart
+from hiddensorts.barring import barring, touching
+from hiddensorts.bounds import bend_ends, lean_ends, verdict, verdict_ends
+from hiddensorts.checks import check_kind, pair_kind
 from hiddensorts.errors import BadLook, BadLot, BadPiece, BadSort, BadSpot, BadWalk
+from hiddensorts.frames import frame_of
 from hiddensorts.giving import bend, cov, given_world, lean, row_bend, split
+from hiddensorts.leans import Leans, has_three
+from hiddensorts.loose import two_worlds
 from hiddensorts.lots import asking_of, lot_of, spot_of
 from hiddensorts.making import made_by_parts
+from hiddensorts.meeting import cross_square
+from hiddensorts.opening import opened, part_by
 from hiddensorts.parts import part, twist
+from hiddensorts.standing import balance_range
+from hiddensorts.sureness import may_be_sure, must_be_sure
 from hiddensorts.tables import Table
 from hiddensorts.throwing import may_throw, thrown
+from hiddensorts.tilts import Tilts
+from hiddensorts.untold import factor_ends, link_ends, pair_at, twist_ends
 from hiddensorts.walks import along
 from hiddensorts.webs import Web
 from hiddensorts.worlds import World
-from tests.tools import NO_INTEGERS, NO_LISTS, random_world
+from tests.tools import HALF, NO_INTEGERS, NO_LISTS, random_world
 
 WORLD = random_world(161, (2, 3, 2, 2), 2, low=1)
 SIGHTS = WORLD.sights_of([(0, 1, 2), (2, 3)])
 TABLE = WORLD.made((0, 1, 2))
 WEB = Web(SIGHTS)
+
+SIDED = frame_of(World([(1, 2), (1, 2)], [[HALF, [(1, 2), (1, 4), (1, 4)], [(1, 5), (4, 5)], [(2, 3), (1, 3)]],
+                                          [[(1, 3), (2, 3)], [(1, 3)] * 3, HALF, [(1, 4), (3, 4)]]])
+                 .sights_of([(0, 1), (1, 2), (2, 3)]), 0)
+RINGED = frame_of(SIGHTS, 0)
+LEANS = Leans(SIGHTS, 0)
 
 WRONG_SPOTS = NO_LISTS + [(), (0,), (0, 0, 0), (4, 0), (-1, 0), (0, 2), (1, 3), (0, -1), (True, 0), (0, False),
                           ("0", 0), (0, None), (0.0, 0), [[0], 0]]
@@ -33,7 +51,20 @@ SPOT_DOORS = {
     "World.single": WORLD.single, "given_world": lambda x: given_world(WORLD, x), "split": lambda x: split(WORLD, x),
     "lean": lambda x: lean(WORLD, x), "bend": lambda x: bend(WORLD, x), "cov of y": lambda x: cov(WORLD, x, (1, 0)),
     "cov of z": lambda x: cov(WORLD, (1, 0), x), "along from x": lambda x: along(SIGHTS, (0, 1), x, (1, 0)),
-    "along to y": lambda x: along(SIGHTS, (1, 0), (1, 0), x),
+    "along to y": lambda x: along(SIGHTS, (1, 0), (1, 0), x), "tilt": SIDED.tilts.tilt,
+    "leaning": RINGED.tilts.leaning, "told of x": lambda x: RINGED.tilts.told(x, (1, 0)),
+    "told of y": lambda x: SIDED.tilts.told((1, 0), x), "two_worlds of x": lambda x: two_worlds(SIDED.tilts, x, (2, 0)),
+    "two_worlds of y": lambda x: two_worlds(SIDED.tilts, (2, 0), x), "verdict": lambda x: verdict(WORLD, x),
+    "verdict_ends": lambda x: verdict_ends(SIDED, x), "lean_ends": lambda x: lean_ends(RINGED, x),
+    "bend_ends": lambda x: bend_ends(SIDED, x), "link_ends of x": lambda x: link_ends(SIDED, x, (2, 1)),
+    "link_ends of y": lambda x: link_ends(SIDED, (2, 1), x),
+    "twist_ends of x": lambda x: twist_ends(RINGED, x, (1, 0), (2, 0)),
+    "twist_ends of y": lambda x: twist_ends(SIDED, (1, 0), x, (2, 0)),
+    "twist_ends of z": lambda x: twist_ends(RINGED, (1, 0), (2, 0), x),
+    "cross_square of x": lambda x: cross_square(RINGED, RINGED, x, (1, 0)),
+    "cross_square of y": lambda x: cross_square(RINGED, RINGED, (1, 0), x), "Leans.lean": LEANS.lean,
+    "Leans.bend": LEANS.bend, "Leans.link of x": lambda x: LEANS.link(x, (1, 0)),
+    "Leans.link of y": lambda x: LEANS.link((1, 0), x), "part_by": lambda x: part_by(LEANS, [(1, 0), x, (2, 0)]),
 }
 ROW_DOORS = {"Table.at": TABLE.at, "part": lambda row: part(TABLE, row),
              "row_bend": lambda row: row_bend(WORLD, (0, 1, 2), row)}
@@ -69,7 +100,19 @@ LOT_DOORS = {
                           [([0, 0], 1), ([3], -1), ([1, 2], -1)]),
 }
 LOOK_DOORS = {"piece_of": WEB.piece_of, "steps": WEB.steps, "walk": lambda look: WEB.walk(look, 0, True),
-              "walk to other": lambda look: WEB.walk(0, look, False)}
+              "walk to other": lambda look: WEB.walk(0, look, False),
+              "told_table": lambda look: SIDED.tilts.told_table(look, 0),
+              "told_table of other": lambda look: RINGED.tilts.told_table(0, look),
+              "may_be_sure": lambda look: may_be_sure(SIDED, look),
+              "must_be_sure": lambda look: must_be_sure(RINGED, look),
+              "pair_at": lambda look: pair_at(SIDED, look, look, factor_ends(SIDED)[0]),
+              "pair_at of other": lambda look: pair_at(SIDED, 0 if look in (0, 2) else 1, look, factor_ends(SIDED)[1])}
+TWO_LOOK_DOORS = {"pair_kind": lambda look, other: pair_kind(WEB, look, other),
+                  "check_kind": lambda look, other: check_kind(SIGHTS, look, other)}
+PIECE_DOORS = {"is_ringed": WEB.is_ringed, "sides_of": WEB.sides_of, "Tilts": lambda k: Tilts(SIGHTS, k),
+               "frame_of": lambda k: frame_of(SIGHTS, k), "barring": lambda k: barring(SIGHTS, k),
+               "touching": lambda k: touching(SIGHTS, k), "has_three": lambda k: has_three(SIGHTS, k),
+               "Leans": lambda k: Leans(SIGHTS, k), "balance_range": lambda k: balance_range(SIGHTS, k)}
 LOT_0_DOORS = {"Sights.without": SIGHTS.without, "World.without": WORLD.without,
                "mixed": lambda look: WORLD.mixed(look, [[0], [1, 2]] if look == 1 else [[1], [0]])}
 
@@ -120,6 +163,13 @@ class DoorsTest(unittest.TestCase):
                     door(look)
             for look in range(4):
                 door(look)
+        for name, door in TWO_LOOK_DOORS.items():
+            for look in NO_INTEGERS + [4, -1]:
+                for pair in ((look, 0), (0, look), (look, look), (0, 0)):
+                    with self.subTest(door=name, pair=pair), self.assertRaises(BadLook):
+                        door(*pair)
+            for pair in ((0, 1), (1, 0), (3, 2)):
+                door(*pair)
         for name, door in LOT_0_DOORS.items():
             for look in NO_INTEGERS + [4, -1]:
                 with self.subTest(door=name, look=look):
@@ -130,10 +180,11 @@ class DoorsTest(unittest.TestCase):
                 door(look)
 
     def test_pieces_and_walks(self):
-        for number in NO_INTEGERS + [1, -1]:
-            for door in (WEB.is_ringed, WEB.sides_of):
-                with self.assertRaises(BadPiece):
+        for name, door in PIECE_DOORS.items():
+            for number in NO_INTEGERS + [1, -1]:
+                with self.subTest(door=name, number=number), self.assertRaises(BadPiece):
                     door(number)
+            door(0)
         for look in NO_INTEGERS + [4, -1, 0, 3]:
             with self.assertRaises(BadWalk) as caught:
                 along(SIGHTS, (0, look), (0, 0), (0, 0))

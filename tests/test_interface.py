@@ -5,20 +5,36 @@ import importlib
 import inspect
 import itertools
 import unittest
+from fractions import Fraction
 from pathlib import Path
 
+from hiddensorts import frames
 from hiddensorts.apart import told_apart
+from hiddensorts.barring import barring, touching
+from hiddensorts.bending import turned_spots
+from hiddensorts.bounds import bend_ends, lean_ends, verdict, verdict_ends, verdict_world
+from hiddensorts.cutting import cut_ends, cut_worlds, join_ends
+from hiddensorts.frames import frame_of
 from hiddensorts.giving import given_world, row_bend
+from hiddensorts.leans import Leans
+from hiddensorts.loose import two_worlds, world_at, world_with
 from hiddensorts.making import made_by_parts, zeros
 from hiddensorts.matrices import first_rows, inverse, multiply, positive, rank, turned
+from hiddensorts.meeting import cross_square
+from hiddensorts.opening import opened, part_by
 from hiddensorts.parts import part
-from hiddensorts.ratios import as_ratio, greatest, least, plus, total
+from hiddensorts.ratios import as_ratio, greatest, least, over, plus, times, total
+from hiddensorts.roots import fits_chance
 from hiddensorts.sights import Sights
+from hiddensorts.sureness import border_spots
 from hiddensorts.tables import Table
+from hiddensorts.tilts import Tilts
+from hiddensorts.untold import link_ends, pair_at, twist_ends
 from hiddensorts.walks import along
 from hiddensorts.webs import Web
 from hiddensorts.worlds import World
-from tests.tools import random_world
+from tests.threes import leaned_sights
+from tests.tools import FAR, HALF, NEAR, random_world
 
 ROOT = Path(__file__).resolve().parent.parent
 
@@ -39,6 +55,25 @@ FUNCTIONS = {
               "independent": "world first second rest"},
     "throwing": {"thrown": "world sort other", "may_throw": "world sort other", "thrown_all": "world"},
     "walks": {"along": "sights walk x y"},
+    "agreeing": {"reason": "sights", "pairs_agree": "sights"},
+    "loose": {"world_at": "tilts s t", "world_with": "tilts p", "two_worlds": "tilts x y", "world_of_all": "sights"},
+    "roots": {"fits_chance": "tilts p", "some_chance": "tilts", "go_together": "sights"},
+    "checks": {"pair_kind": "web look other", "check_kind": "sights look other", "least_pairs": "sights"},
+    "frames": {"frame_of": "sights number", "fair_worlds_of": "frame world"},
+    "barring": {"barring": "sights number", "touching": "sights number", "unseen_bar": "sights"},
+    "sureness": {"may_be_sure": "frame look", "must_be_sure": "frame look", "border_spots": "frame"},
+    "bounds": {"chance_ends": "frame", "verdict_ends": "frame spot", "lean_ends": "frame spot",
+               "bend_ends": "frame spot", "verdict": "world spot", "verdict_world": "frame chance"},
+    "untold": {"factor_ends": "oblong", "link_ends": "frame x y", "pair_at": "oblong look other factor",
+               "twist_ends": "frame x y z", "share_of": "stretch world"},
+    "meeting": {"balance_ends": "frame", "meet": "frame other", "meet_all": "frames", "cross_signs": "frame other",
+                "cross_square": "frame other x y", "stands_together": "sights"},
+    "cutting": {"cut_ends": "oblong factor", "cut_worlds": "oblong factor",
+                "join_ends": "oblong side other other_side *sign"},
+    "leans": {"has_three": "sights number"},
+    "opening": {"part_by": "leans spots", "opened": "leans asking"},
+    "bending": {"turned_spots": "leans", "is_fair": "leans", "squares_of": "leans", "world_of": "leans"},
+    "standing": {"balance_range": "sights number", "stand": "sights"},
 }
 CLASSES = {
     ("tables", "Table"): ("asking sizes entries", {
@@ -56,6 +91,19 @@ CLASSES = {
     ("webs", "Web"): ("sights", {
         "piece_of": "self look", "is_ringed": "self number", "sides_of": "self number", "steps": "self look",
         "walk": "self look other odd"}, ["free"]),
+    ("tilts", "Tilts"): ("sights number", {
+        "tilt": "self spot", "leaning": "self spot", "told": "self x y", "told_table": "self look other",
+        "heights": "self"}, []),
+    ("leans", "Leans"): ("sights number", {
+        "lean": "self x", "bend": "self x", "link": "self x y", "balance": "self"}, []),
+}
+# Nothing is promised about calling these classes.
+FRAMES = {
+    "Frame": {},
+    "Oblong": {"holds": "self s t", "at": "self s t", "corner": "self s_end t_end", "coordinates": "self world",
+               "first_end": "self", "second_end": "self", "only_one": "self", "end_worlds": "self"},
+    "Stretch": {"holds": "self p", "at": "self p", "first_end": "self", "second_end": "self", "only_one": "self",
+                "end_worlds": "self"},
 }
 
 
@@ -92,22 +140,36 @@ class InterfaceTest(unittest.TestCase):
                 self.assertIsInstance(vars(found)[method], property)
         self.assertEqual(inspect.signature(Sights).parameters["seen"].default, ())
 
+    def test_frames(self):
+        for word, methods in FRAMES.items():
+            found = vars(frames)[word]
+            self.assertEqual(found.__module__, "hiddensorts.frames")
+            for method, wanted in methods.items():
+                self.assertEqual(told(vars(found)[method]), wanted, method)
+        self.assertEqual((frames.Oblong.KIND, frames.Stretch.KIND), ("oblong", "stretch"))
+        self.assertEqual((frames.Oblong.__bases__, frames.Stretch.__bases__), ((frames.Frame,), (frames.Frame,)))
+        self.assertIs(inspect.signature(join_ends).parameters["sign"].default, inspect.Parameter.empty)
+
     def test_the_readme_tells_the_use_and_the_tests(self):
         text = (ROOT / "README.md").read_text(encoding="utf-8")
         self.assertIn("python3 -m unittest", text)
         self.assertIn(".ci/run", text)
-        example = text.split("```python\n")[1].split("```")[0]
+        examples = [part.split("```")[0] for part in text.split("```python\n")[1:]]
         names = {}
         checked = 0
-        for line in example.split("\n"):
+        for line in "\n".join(examples).split("\n"):
             call, _, wanted = line.partition("  #")
             if wanted:
                 # A comment behind a call tells what it returns, up to a remark in words.
-                self.assertEqual(eval(call, names), eval(wanted.split(", though")[0].strip()), line)
+                if "=" in call.split("(")[0]:
+                    exec(call, names)
+                    self.assertEqual(type(names[call.split(" ")[0]]).__name__, wanted.split()[1].strip(","))
+                else:
+                    self.assertEqual(eval(call, names), eval(wanted.split(", though")[0].strip()), line)
                 checked += 1
             else:
                 exec(call, names)
-        self.assertEqual(checked, 4)
+        self.assertEqual(checked, 10)
 
 
 class ArgumentsTest(unittest.TestCase):
@@ -134,6 +196,26 @@ class ArgumentsTest(unittest.TestCase):
             (world.sights_of, [[[0, 1], [0, 2]]]), (world.mixed, [1, [[2], [0, 1]]]),
             (made_by_parts, [world, [0, 1]]), (given_world, [world, [0, 1]]), (row_bend, [world, [0, 1], [1, 2]]),
             (along, [sights, [0, 1, 2, 1], [0, 0], [1, 2]]),
+        ] + self.frame_calls(world)
+
+    def frame_calls(self, world):
+        sided, ringed = frame_of(world.sights_of([(0, 1), (1, 2)]), 0), frame_of(world.sights_of([(0, 1, 2)]), 0)
+        leans, tilts = Leans(ringed.sights, 0), sided.tilts
+        low, high = [list(end) for end in (sided.s_low, sided.t_high)]
+        middle = list(over(1, 2))
+        return [
+            (tilts.tilt, [[0, 1]]), (tilts.leaning, [[1, 1]]), (tilts.told, [[0, 0], [1, 2]]),
+            (world_at, [tilts, low, high]), (world_with, [tilts, middle]),
+            (two_worlds, [tilts, [0, 0], [2, 1]]), (fits_chance, [tilts, middle]),
+            (sided.holds, [low, high]), (sided.at, [low, high]), (ringed.holds, [middle]),
+            (ringed.at, [list(ringed.high)]), (verdict_ends, [sided, [0, 1]]), (lean_ends, [ringed, [1, 2]]),
+            (bend_ends, [sided, [2, 0]]), (verdict, [world, [2, 0]]),
+            (verdict_world, [sided, list(sided.first_end().chances[0])]), (link_ends, [sided, [0, 0], [2, 1]]),
+            (pair_at, [sided, 0, 2, list(times(sided.s_low, sided.t_low))]),
+            (twist_ends, [ringed, [0, 0], [1, 2], [2, 1]]), (cut_ends, [sided, list(times(sided.s_low, sided.t_low))]),
+            (cut_worlds, [sided, list(times(sided.s_low, sided.t_low))]),
+            (cross_square, [ringed, ringed, [0, 0], [1, 2]]), (leans.lean, [[0, 1]]), (leans.bend, [[1, 1]]),
+            (leans.link, [[0, 1], [0, 0]]), (part_by, [leans, [[0, 1], [2, 0], [0, 1]]]), (opened, [leans, [0, 1, 1]]),
         ]
 
     def test_arguments_stay_and_tuples_serve(self):
@@ -165,19 +247,31 @@ class ArgumentsTest(unittest.TestCase):
     def test_returned_lists_are_fresh(self):
         world = World([(1, 2), (1, 2)], [[[1, 0], [1, 0]], [[0, 1], [0, 1]]])
         sights = world.sights_of([(0, 1)])
-        for call in (sights.pairs, sights.linked, lambda: zeros(world), lambda: Table.rows_of(world.made((0,)))):
+        chain = frame_of(Sights([HALF] * 3, seen=[((0, 1), FAR), ((1, 2), FAR)]), 0)
+        bar = Sights([HALF] * 4, seen=[((0, 1), NEAR), ((1, 2), FAR), ((2, 3), NEAR)])
+        turned = Leans(leaned_sights([HALF] * 3, [[1, -1]] * 3, Fraction(1, 4), Fraction(9, 10), [(0, 1, 2)]), 0)
+        for call in (sights.pairs, sights.linked, lambda: zeros(world), lambda: Table.rows_of(world.made((0,))),
+                     lambda: barring(bar, 0), lambda: touching(sights, 0), lambda: border_spots(chain),
+                     lambda: turned_spots(turned)):
             first = call()
             self.assertIs(type(first), list)
             kept = list(first)
             first.clear()
+            self.assertTrue(kept)
             self.assertEqual(call(), kept)
             self.assertTrue(all(type(entry) is tuple for entry in kept))
+        first = chain.end_worlds()
+        self.assertIs(type(first), list)
+        first.clear()
+        self.assertEqual(len(chain.end_worlds()), 4)
 
     def test_tuples_where_tuples_are_told(self):
         world = World([(1, 2), (1, 2)], [[[1, 0], [1, 0]], [[0, 1], [0, 1]]])
         web = Web(world.sights_of([[0, 1]]))
+        tilts = Tilts(web.sights, 0)
         for value in (web.pieces, web.sides_of(0), web.steps(0), web.walk(0, 0, False), told_apart(world, 0, 1),
-                      first_rows([[1]]), turned([[1]]), web.sights.lots, world.made([0]).asking):
+                      first_rows([[1]]), turned([[1]]), web.sights.lots, world.made([0]).asking, tilts.looks,
+                      tilts.sides, tilts.base, tilts.heights(), two_worlds(tilts, [0, 0], [0, 0])):
             self.assertIs(type(value), tuple)
 
 
