@@ -76,6 +76,22 @@ class AgreeingTest(unittest.TestCase):
             sights = first.adding((1, 2), entries)
             self.assertEqual(self.check(sights), None if other == [-1, 1, 0] else "walks")
 
+    def test_whichever_look_is_split_two_ways(self):
+        # The looks keep their names but change their numbers: the one that is split two ways is of side A or side B.
+        one, middle, other = [1, -1], [1, -1, 0], [1, 1, -2]
+        for order in itertools.permutations(range(3)):
+            singles = [None] * 3
+            for place, chances in zip(order, (HALF, THIRD, HALF)):
+                singles[place] = chances
+            seen = []
+            for end, vector in ((order[0], middle), (order[2], other)):
+                vectors = [one] * 3
+                vectors[order[1]] = vector
+                pair = tuple(sorted([end, order[1]]))
+                seen.append((pair, linked_sights(singles, vectors, {pair: Fraction(1, 4)}).table(pair).entries))
+            self.assertEqual(self.check(Sights(singles, seen=seen)), "walks")
+            self.assertIsNone(self.check(Sights(singles, seen=seen[:1])))
+
     def test_rank(self):
         sights = Sights([THIRD, THIRD, HALF], seen=[((0, 1), BOUND)])
         self.assertEqual(self.check(sights), "rank")

@@ -158,6 +158,18 @@ class TiltsTest(unittest.TestCase):
         self.assertIsNone(tilts.told((0, 1), (2, 1)))
         self.assertEqual(tilts.heights()[0], (1, 1))
 
+    def test_first_answers_that_are_linked_with_nothing(self):
+        singles = [[(1, 4), (1, 4), (1, 2)]] * 4
+        vectors = [[0, -2, 1]] * 4
+        fourth = Fraction(1, 4)
+        for pairs in ([(0, 1), (1, 2), (2, 3)], [(0, 1), (1, 2), (0, 2), (2, 3)], [(0, 3), (1, 3), (1, 2)]):
+            tilts = Tilts(linked_sights(singles, vectors, {pair: fourth for pair in pairs}), 0)
+            self.assertEqual(tilts.base, (0, 1))
+            for x, y in itertools.product(piece_spots(tilts), repeat=2):
+                if tilts.told(x, y) is not None:
+                    wanted = fourth * vectors[x[0]][x[1]] * vectors[y[0]][y[1]]
+                    self.assertEqual(tilts.told(x, y), ratio(wanted))
+
     def test_inner_spots_are_not_those_with_link_0(self):
         source = random.Random(2200)
         for seed in range(12):
@@ -239,9 +251,16 @@ class WrongTest(unittest.TestCase):
             for pair in ((look, 0), (0, look), (5, look), (look, 5)):
                 with self.assertRaises(BadLook):
                     self.sided.told_table(*pair)
-        for pair in ((0, 2), (2, 0), (5, 0), (5, 5)):
+        for pair in ((0, 2), (2, 0), (5, 0), (5, 5), (1, 2), (1, 5), (5, 1), (2, 3)):
             with self.assertRaises(OtherPiece):
                 self.sided.told_table(*pair)
+        for pair in ((0, 2), (0, 3), (4, 1), (3, 5), (5, 5)):
+            with self.assertRaises(OtherPiece):
+                self.ringed.told_table(*pair)
+        late = Tilts(Sights([HALF] * 5, seen=[((0, 1), FAR), ((2, 3), FAR)]), 1)
+        for pair in ((0, 2), (3, 1), (4, 3), (0, 3)):
+            with self.assertRaises(OtherPiece):
+                late.told_table(*pair)
 
 
 if __name__ == "__main__":
