@@ -1,12 +1,12 @@
 """The ends of chances, verdicts, leans and bends over the fair worlds of a piece."""
 
-from hiddensorts.errors import NeverMet, Outside
+from hiddensorts.errors import Outside
 from hiddensorts.frames import lies_within
 from hiddensorts.giving import bend, lean
 from hiddensorts.loose import sided_world
 from hiddensorts.lots import spot_of
-from hiddensorts.making import judge_two
-from hiddensorts.ratios import as_ratio, greatest, least, minus, over, sign_of, times
+from hiddensorts.making import judge_two, single_met
+from hiddensorts.ratios import as_ratio, greatest, least, minus, over, times
 from hiddensorts.tilts import judge_sided, piece_spot_of
 
 
@@ -24,10 +24,7 @@ def verdict(world, spot):
     """The verdict by a spot of a world of two sorts."""
     judge_two(world)
     chosen = spot_of(spot, world.sizes)
-    single = world.single(chosen)
-    if sign_of(single) == 0:
-        raise NeverMet(chosen)
-    return over(times(world.chances[0], world.chance_at(0, chosen)), single)
+    return over(times(world.chances[0], world.chance_at(0, chosen)), single_met(world, chosen))
 
 
 def verdict_ends(frame, spot):

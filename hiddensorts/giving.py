@@ -2,7 +2,7 @@
 
 from hiddensorts.errors import NeverMet, NotFair
 from hiddensorts.lots import lot_of, row_of, row_spots, spot_of
-from hiddensorts.making import balance_of, judge_two, split_at
+from hiddensorts.making import balance_of, judge_two, single_met, split_at
 from hiddensorts.ratios import minus, over, product_of, sign_of, times
 from hiddensorts.worlds import World, made_entry
 
@@ -10,9 +10,7 @@ from hiddensorts.worlds import World, made_entry
 def given_world(world, spot):
     """The World given the spot, of all looks."""
     chosen = spot_of(spot, world.sizes)
-    single = world.single(chosen)
-    if sign_of(single) == 0:
-        raise NeverMet(chosen)
+    single = single_met(world, chosen)
     found = [world.chance_at(which, chosen) for which in range(len(world))]
     if any([sign_of(chance) < 0 for chance in found]):
         raise NotFair()
@@ -43,10 +41,7 @@ def bend(world, x):
     """The bend of a spot, a ratio."""
     judge_two(world)
     spot = spot_of(x, world.sizes)
-    single = world.single(spot)
-    if sign_of(single) == 0:
-        raise NeverMet(spot)
-    return bend_of(world, [spot], single)
+    return bend_of(world, [spot], single_met(world, spot))
 
 
 def balance(world):

@@ -50,12 +50,17 @@ def step_numbers(world, many):
     return tuple(found[:many + 1])
 
 
-def split_at(world, spot):
-    """The split of a spot of a world of two sorts; NeverMet if its single is 0."""
+def single_met(world, spot):
+    """The single of a spot, if it is not 0."""
     single = world.single(spot)
     if sign_of(single) == 0:
         raise NeverMet(spot)
-    return over(minus(world.chance_at(0, spot), world.chance_at(1, spot)), single)
+    return single
+
+
+def split_at(world, spot):
+    """The split of a spot of a world of two sorts; NeverMet if its single is 0."""
+    return over(minus(world.chance_at(0, spot), world.chance_at(1, spot)), single_met(world, spot))
 
 
 def subset_sums(splits):

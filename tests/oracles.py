@@ -7,8 +7,7 @@ from fractions import Fraction
 from hiddensorts.sights import Sights
 from hiddensorts.walks import along
 from hiddensorts.webs import Web
-from hiddensorts.worlds import World
-from tests.tools import fraction, random_chances, ratio, rows, spots
+from tests.tools import fraction, random_chances, ratio, spots
 
 
 def single(sights, spot):
@@ -181,9 +180,11 @@ def random_web_sights(seed, sizes, pairs, *, pick=(1,), scale=40, base=2):
     return linked_sights(singles, vectors, factors)
 
 
-def two_sorts(p, sorts):
-    return World([ratio(p), ratio(1 - Fraction(p))], sorts)
-
-
-def all_rows_of(sights, lot):
-    return rows(lot, sights.sizes)
+def beside(*parts):
+    """Sights of several sights beside each other."""
+    singles, seen = [], []
+    for part in parts:
+        shift = len(singles)
+        singles += list(part.singles)
+        seen += [([look + shift for look in lot], part.table(lot).entries) for lot in part.lots]
+    return Sights(singles, seen=seen)

@@ -11,7 +11,7 @@ from hiddensorts.frames import Stretch, fair_worlds_of, frame_of
 from hiddensorts.meeting import cross_signs
 from hiddensorts.sights import Sights
 from hiddensorts.untold import factor_ends
-from tests.oracles import link, look_spots, made_link
+from tests.oracles import beside, link, look_spots, made_link
 from tests.test_frames import RING, TREES, many_sights
 from tests.test_meeting import skewed, sure_frame
 from tests.tools import FAR, HALF, NO_NUMBERS, as_it_looks, fraction, ratio, rows
@@ -150,11 +150,7 @@ class JoinTest(unittest.TestCase):
                                                           skewed(Fraction(2, 3), 2).sights]
         # The pairs of the first piece of each, at most four looks together with those of the next one's.
         for one, two in list(itertools.combinations(parts, 2))[::3]:
-            one, two = self.less(one), self.less(two)
-            shift = len(one.singles)
-            seen = [(lot, one.table(lot).entries) for lot in one.lots]
-            seen += [([look + shift for look in lot], two.table(lot).entries) for lot in two.lots]
-            sights = Sights(one.singles + two.singles, seen=seen)
+            sights = beside(self.less(one), self.less(two))
             yield sights, frame_of(sights, 0), frame_of(sights, 1)
 
     def less(self, sights):

@@ -98,6 +98,7 @@ LOT_DOORS = {
                             [([], -1), ([0, 0], 1), ([3], -1)]),
     "independent, rest": (lambda lot: independent(WORLD, (3,), (2,), lot), [(), (0,), (0, 1)],
                           [([0, 0], 1), ([3], -1), ([1, 2], -1)]),
+    "opened": (lambda lot: opened(LEANS, lot), [(0,), (0, 0), (1, 3)], [([], -1)]),
 }
 LOOK_DOORS = {"piece_of": WEB.piece_of, "steps": WEB.steps, "walk": lambda look: WEB.walk(look, 0, True),
               "walk to other": lambda look: WEB.walk(0, look, False),

@@ -11,6 +11,7 @@ from hiddensorts.frames import frame_of
 from hiddensorts.meeting import balance_ends, cross_signs, cross_square, meet, meet_all, stands_together
 from hiddensorts.sights import Sights
 from hiddensorts.webs import Web
+from tests.oracles import beside
 from tests.test_barring import inner_worlds
 from tests.test_frames import CHAIN, RING, RINGS, TREES, many_sights, piece_spots, told_links
 from tests.tools import FAR, HALF, QUARTERS, as_it_looks, fraction, random_world, ratio
@@ -203,15 +204,6 @@ class StandsTogetherTest(unittest.TestCase):
             return False
         return all(meet(one, two) for one, two in itertools.combinations(found, 2))
 
-    def beside(self, *parts):
-        """Sights of several frames' sights beside each other."""
-        singles, seen = [], []
-        for part in parts:
-            shift = len(singles)
-            singles += list(part.singles)
-            seen += [([look + shift for look in lot], part.table(lot).entries) for lot in part.lots]
-        return Sights(singles, seen=seen)
-
     def test_sights_of_fair_worlds(self):
         for seed in range(14):
             world = random_world(6800 + seed, (2, 3, 2, 2, 2), 2, low=0)
@@ -224,7 +216,7 @@ class StandsTogetherTest(unittest.TestCase):
         found = [sure_frame(Fraction(k, 6)) for k in (1, 2, 3, 4)]
         found += [skewed(Fraction(1, 4), 3), skewed(Fraction(1, 2), 1)]
         for one, two in itertools.product(found, repeat=2):
-            sights = self.beside(one.sights, two.sights)
+            sights = beside(one.sights, two.sights)
             words.append(stands_together(sights))
             self.assertIs(words[-1], meet(one, two))
             self.assertEqual(words[-1], self.by_definition(sights))
@@ -232,9 +224,9 @@ class StandsTogetherTest(unittest.TestCase):
 
     def test_three_pieces(self):
         frames_here = [sure_frame(Fraction(1, 3)), skewed(Fraction(1, 2), 1), sure_frame(Fraction(2, 3))]
-        self.assertIs(stands_together(self.beside(*[frame.sights for frame in frames_here])), True)
+        self.assertIs(stands_together(beside(*[frame.sights for frame in frames_here])), True)
         frames_here[2] = sure_frame(Fraction(1, 4))
-        self.assertIs(stands_together(self.beside(*[frame.sights for frame in frames_here])), False)
+        self.assertIs(stands_together(beside(*[frame.sights for frame in frames_here])), False)
 
     def test_without_pieces(self):
         self.assertIs(stands_together(Sights([HALF])), True)

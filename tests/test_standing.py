@@ -19,7 +19,7 @@ from hiddensorts.standing import balance_range, stand
 from hiddensorts.tilts import Tilts
 from hiddensorts.untold import share_of, twist_ends
 from hiddensorts.webs import Web
-from tests.oracles import holds_reason, made_twist, single
+from tests.oracles import beside, holds_reason, made_twist, single
 from tests.test_barring import inner_worlds
 from tests.test_frames import CHAIN, RING, RINGS, TREES, many_sights, piece_spots
 from tests.test_leans import FIVE, LOTS, ROW, THIRD, loose_world
@@ -29,16 +29,6 @@ from tests.tools import (FAR, HALF, NEAR, NO_INTEGERS, QUARTERS, as_it_looks, fr
 
 SIZES = (2, 3, 2, 3)
 PARITY = [(1, 4), 0, 0, (1, 4), 0, (1, 4), (1, 4), 0]
-
-
-def beside(*parts):
-    """Sights of several sights beside each other."""
-    singles, seen = [], []
-    for part in parts:
-        shift = len(singles)
-        singles += list(part.singles)
-        seen += [([look + shift for look in lot], part.table(lot).entries) for lot in part.lots]
-    return Sights(singles, seen=seen)
 
 
 def three(share, skew, *, many=3):
