@@ -131,6 +131,48 @@ def inverse(m):
     return tuple([tuple([as_ratio((sign * entry, sign * before)) for entry in row]) for row in work])
 
 
+def rows_at(rows, places):
+    """The part of a matrix with these rows, a tuple."""
+    return tuple([rows[place] for place in places])
+
+
+def columns_at(rows, columns):
+    """The part of a matrix with these columns, a tuple of tuples."""
+    return tuple([tuple([row[column] for column in columns]) for row in rows])
+
+
+def cut_out(rows, places, columns):
+    """The part of a matrix with these rows and these columns, a tuple of tuples."""
+    return columns_at(rows_at(rows, places), columns)
+
+
+def null_columns(m):
+    """For each column that is a sum of multiples of those before it, the numbers by which all sum to 0, a list.
+
+    Each is a tuple with one ratio for each column, -1 at that column.
+    """
+    rows = matrix_of(m)
+    many = len(rows[0])
+    chosen = first_rows(turned(rows))
+    found = []
+    for column in range(many):
+        if column not in chosen:
+            numbers = [(-1, 1) if place == column else (0, 1) for place in range(many)]
+            for place, number in zip(chosen, multiples_for(rows, chosen, column)):
+                numbers[place] = number
+            found.append(tuple(numbers))
+    return found
+
+
+def multiples_for(rows, chosen, column):
+    """The multiples of the chosen independent columns that sum to a column that hangs on them, a list."""
+    if not chosen:
+        return []
+    places = first_rows(columns_at(rows, chosen))
+    solved = multiply(inverse(cut_out(rows, places, chosen)), cut_out(rows, places, [column]))
+    return [line[0] for line in solved]
+
+
 def positive(m):
     """Whether no list of numbers makes the form of a symmetric matrix fall below 0."""
     rows = matrix_of(m)

@@ -2,7 +2,7 @@
 
 from hiddensorts.errors import NeverMet, NotSeen
 from hiddensorts.lots import row_of, row_spots, spot_of
-from hiddensorts.ratios import minus, over, sign_of, times, total
+from hiddensorts.ratios import minus, over, sign_of, weighted
 
 
 def single_at(table, row, place):
@@ -25,11 +25,6 @@ def part(table, row):
         weights = [minus(over(1, singles[place]), 1) if answer == answers[place] else -1 for answer in range(size)]
         values = [weighted(weights, values[start:start + size]) for start in range(0, len(values), size)]
     return values[0]
-
-
-def weighted(weights, values):
-    """The sum of the values, each times its weight."""
-    return total([times(weight, value) for weight, value in zip(weights, values)])
 
 
 def twist(sights, x, y, z):

@@ -119,6 +119,11 @@ def product_of(numbers):
     return as_ratio((top, bottom))
 
 
+def weighted(weights, values):
+    """The sum of the values, each times its weight."""
+    return total([times(weight, value) for weight, value in zip(weights, values)])
+
+
 def least(numbers):
     """The least of a list of numbers that is not empty."""
     ratios = as_ratios(numbers)

@@ -2,12 +2,20 @@
 
 import unittest
 
+from hiddensorts.across import across_factor, drawn_where
 from hiddensorts.apart import independent, is_sure, told_apart
 from hiddensorts.barring import barring, touching
+from hiddensorts.bets import bet_worth, better_price, prices
 from hiddensorts.bounds import bend_ends, lean_ends, verdict, verdict_ends
 from hiddensorts.checks import check_kind, pair_kind
+from hiddensorts.curves import curve_of
+from hiddensorts.desks import Desk
+from hiddensorts.drawings import Drawing, drawn_look, drawn_sights, draws, told_drawing
 from hiddensorts.errors import BadLook, BadLot, BadPiece, BadSort, BadSpot, BadWalk
+from hiddensorts.evens import EvenWeb
 from hiddensorts.frames import frame_of
+from hiddensorts.fullness import blind_pair, dependence, is_full, lot_matrix, pair_matrix, table_rank
+from hiddensorts.givens import across_link, given_sights
 from hiddensorts.giving import bend, cov, given_world, lean, row_bend, split
 from hiddensorts.leans import Leans, has_three
 from hiddensorts.loose import two_worlds
@@ -16,6 +24,10 @@ from hiddensorts.making import made_by_parts
 from hiddensorts.meeting import cross_square
 from hiddensorts.opening import opened, part_by
 from hiddensorts.parts import part, twist
+from hiddensorts.saying import says_all, sure_by, unlike_at
+from hiddensorts.sewing import told_matrix
+from hiddensorts.showing import shows_well
+from hiddensorts.stakes import Stakes, carried, carried_back, worth_of_sorts
 from hiddensorts.standing import balance_range
 from hiddensorts.sureness import may_be_sure, must_be_sure
 from hiddensorts.tables import Table
@@ -37,6 +49,11 @@ SIDED = frame_of(World([(1, 2), (1, 2)], [[HALF, [(1, 2), (1, 4), (1, 4)], [(1, 
                  .sights_of([(0, 1), (1, 2), (2, 3)]), 0)
 RINGED = frame_of(SIGHTS, 0)
 LEANS = Leans(SIGHTS, 0)
+
+EVEN = EvenWeb(SIDED.sights)
+PAIR = WORLD.made((0, 1))
+DESK = Desk(SIGHTS.singles, seen=[(lot, SIGHTS.table(lot).entries) for lot in SIGHTS.lots])
+NAMING = Stakes([[1, 0], [0, 1]])
 
 WRONG_SPOTS = NO_LISTS + [(), (0,), (0, 0, 0), (4, 0), (-1, 0), (0, 2), (1, 3), (0, -1), (True, 0), (0, False),
                           ("0", 0), (0, None), (0.0, 0), [[0], 0]]
@@ -65,6 +82,10 @@ SPOT_DOORS = {
     "cross_square of y": lambda x: cross_square(RINGED, RINGED, (1, 0), x), "Leans.lean": LEANS.lean,
     "Leans.bend": LEANS.bend, "Leans.link of x": lambda x: LEANS.link(x, (1, 0)),
     "Leans.link of y": lambda x: LEANS.link((1, 0), x), "part_by": lambda x: part_by(LEANS, [(1, 0), x, (2, 0)]),
+    "given_sights": lambda x: given_sights(LEANS, x),
+    "across_link of x": lambda x: across_link(LEANS, LEANS, x, (1, 0)),
+    "across_link of y": lambda x: across_link(LEANS, LEANS, (1, 0), x), "bet_worth": lambda x: bet_worth(PAIR, x, 1),
+    "prices": lambda x: prices(PAIR, x), "better_price": lambda x: better_price(PAIR, PAIR, x),
 }
 ROW_DOORS = {"Table.at": TABLE.at, "part": lambda row: part(TABLE, row),
              "row_bend": lambda row: row_bend(WORLD, (0, 1, 2), row)}
@@ -99,7 +120,29 @@ LOT_DOORS = {
     "independent, rest": (lambda lot: independent(WORLD, (3,), (2,), lot), [(), (0,), (0, 1)],
                           [([0, 0], 1), ([3], -1), ([1, 2], -1)]),
     "opened": (lambda lot: opened(LEANS, lot), [(0,), (0, 0), (1, 3)], [([], -1)]),
+    "pair_matrix": (lambda lot: pair_matrix(TABLE, lot, (1,)), [(0,), (0, 2)],
+                    [([], -1), ([0, 0], 1), ([3], 0), ([0, 3], 1), ([1], -1)]),
+    "pair_matrix of other": (lambda lot: pair_matrix(TABLE, (1,), lot), [(0,), (0, 2)],
+                             [([], -1), ([0, 0], 1), ([3], 0), ([0, 3], 1), ([1], -1)]),
+    "table_rank": (lambda lot: table_rank(TABLE, lot, (1,)), [(0,), (0, 2)], [([], -1), ([3], 0), ([0, 1], -1)]),
+    "carried": (lambda lot: carried(WORLD, lot, Stakes([[1] * (2 if lot == (0,) else 4)])), [(0,), (0, 3)],
+                [([], -1), ([0, 0], 1)]),
+    "says_all": (lambda lot: says_all(WORLD, lot, (1,)), [(0,), (0, 2, 3)], [([], -1), ([0, 0], 1), ([0, 1], -1)]),
+    "says_all of other": (lambda lot: says_all(WORLD, (1,), lot), [(0,), (0, 2)], [([], -1), ([0, 0], 1), ([1], -1)]),
+    "sure_by": (lambda lot: sure_by(WORLD, lot, (1,)), [(0,), (0, 2)], [([], -1), ([0, 0], 1), ([1, 2], -1)]),
+    "sure_by of third": (lambda lot: sure_by(WORLD, (1,), lot), [(0,), (0, 2)], [([], -1), ([0, 0], 1), ([1], -1)]),
+    "tried": (lambda lot: DESK.tried(lot, WORLD.made(lot).entries if isinstance(lot, tuple) and lot else None),
+              [(0, 1), (0, 3)], [([], -1), ([0], -1), ([0, 0], 1)]),
+    "shows_well": (lambda lot: shows_well(SIGHTS, lot, WORLD.made(lot).entries if isinstance(lot, tuple) and lot
+                                          else None), [(0, 1), (0, 3)], [([], -1), ([0], -1), ([0, 0], 1)]),
 }
+# These take any lot that is not empty.
+for WORD, DOOR in (("lot_matrix", lot_matrix), ("is_full", is_full), ("dependence", dependence),
+                   ("blind_pair", blind_pair), ("unlike_at", unlike_at)):
+    LOT_DOORS[WORD] = (lambda lot, door=DOOR: door(WORLD, lot), [(0,), (0, 1), (1, 2, 3)], [([], -1), ([0, 0], 1)])
+for WORD, DOOR in (("worth_of_sorts", worth_of_sorts), ("carried_back", carried_back)):
+    LOT_DOORS[WORD] = (lambda lot, door=DOOR: door(WORLD, lot, NAMING), [(0,), (0, 1)], [([], -1), ([0, 0], 1)])
+
 LOOK_DOORS = {"piece_of": WEB.piece_of, "steps": WEB.steps, "walk": lambda look: WEB.walk(look, 0, True),
               "walk to other": lambda look: WEB.walk(0, look, False),
               "told_table": lambda look: SIDED.tilts.told_table(look, 0),
@@ -107,13 +150,29 @@ LOOK_DOORS = {"piece_of": WEB.piece_of, "steps": WEB.steps, "walk": lambda look:
               "may_be_sure": lambda look: may_be_sure(SIDED, look),
               "must_be_sure": lambda look: must_be_sure(RINGED, look),
               "pair_at": lambda look: pair_at(SIDED, look, look, factor_ends(SIDED)[0]),
-              "pair_at of other": lambda look: pair_at(SIDED, 0 if look in (0, 2) else 1, look, factor_ends(SIDED)[1])}
+              "pair_at of other": lambda look: pair_at(SIDED, 0 if look in (0, 2) else 1, look, factor_ends(SIDED)[1]),
+              "draws": lambda look: draws(WORLD, look, 0, Drawing.same(2)),
+              "draws of other": lambda look: draws(WORLD, 0, look, Drawing.same(2)),
+              "drawn_look": lambda look: drawn_look(WORLD, look, Drawing.same(3 if look == 1 else 2)),
+              "drawn_sights": lambda look: drawn_sights(SIGHTS, look, Drawing.same(3 if look == 1 else 2)),
+              "curve_of": lambda look: curve_of(SIDED.tilts, look),
+              "told_matrix": lambda look: told_matrix(EVEN, look, 0),
+              "told_matrix of other": lambda look: told_matrix(EVEN, 0, look),
+              "EvenWeb.walk": lambda look: EVEN.walk(look, 0, True),
+              "EvenWeb.walk to other": lambda look: EVEN.walk(0, look, False),
+              "Desk.told": lambda look: DESK.told(look, 0),
+              "Desk.told of other": lambda look: DESK.told(0, look)}
 TWO_LOOK_DOORS = {"pair_kind": lambda look, other: pair_kind(WEB, look, other),
-                  "check_kind": lambda look, other: check_kind(SIGHTS, look, other)}
+                  "check_kind": lambda look, other: check_kind(SIGHTS, look, other),
+                  "told_drawing": lambda look, other: told_drawing(SIGHTS, look, other),
+                  "across_factor": lambda look, other: across_factor(SIDED.tilts, look, other),
+                  "drawn_where": lambda look, other: drawn_where(SIDED, look, other),
+                  "seen_matrix": EVEN.seen_matrix, "base_of": EVEN.base_of}
 PIECE_DOORS = {"is_ringed": WEB.is_ringed, "sides_of": WEB.sides_of, "Tilts": lambda k: Tilts(SIGHTS, k),
                "frame_of": lambda k: frame_of(SIGHTS, k), "barring": lambda k: barring(SIGHTS, k),
                "touching": lambda k: touching(SIGHTS, k), "has_three": lambda k: has_three(SIGHTS, k),
-               "Leans": lambda k: Leans(SIGHTS, k), "balance_range": lambda k: balance_range(SIGHTS, k)}
+               "Leans": lambda k: Leans(SIGHTS, k), "balance_range": lambda k: balance_range(SIGHTS, k),
+               "Desk.frame": DESK.frame}
 LOT_0_DOORS = {"Sights.without": SIGHTS.without, "World.without": WORLD.without,
                "mixed": lambda look: WORLD.mixed(look, [[0], [1, 2]] if look == 1 else [[1], [0]])}
 

@@ -12,9 +12,18 @@ from hiddensorts import frames
 from hiddensorts.apart import told_apart
 from hiddensorts.barring import barring, touching
 from hiddensorts.bending import turned_spots
+from hiddensorts.bets import bet_worth, better_price, prices
 from hiddensorts.bounds import bend_ends, lean_ends, verdict, verdict_ends, verdict_world
+from hiddensorts.changing import apart_number, change_between, changed, two_of
+from hiddensorts.curves import Curve
 from hiddensorts.cutting import cut_ends, cut_worlds, join_ends
+from hiddensorts.desks import Desk, News
+from hiddensorts.drawings import Drawing, drawing_for, turns
+from hiddensorts.evens import EvenWeb
+from hiddensorts.founding import agrees, found, found_ringed
 from hiddensorts.frames import frame_of
+from hiddensorts.fullness import blind_pair, dependence, is_full, lot_matrix, pair_matrix, table_rank, yes_no_full
+from hiddensorts.givens import across_link, given_sights, shown_lots
 from hiddensorts.giving import given_world, row_bend
 from hiddensorts.leans import Leans
 from hiddensorts.loose import two_worlds, world_at, world_with
@@ -22,10 +31,16 @@ from hiddensorts.making import made_by_parts, zeros
 from hiddensorts.matrices import first_rows, inverse, multiply, positive, rank, turned
 from hiddensorts.meeting import cross_square
 from hiddensorts.opening import opened, part_by
+from hiddensorts.parting import part_or_draw
 from hiddensorts.parts import part
+from hiddensorts.plans import a_plan
 from hiddensorts.ratios import as_ratio, greatest, least, over, plus, times, total
 from hiddensorts.roots import fits_chance
+from hiddensorts.saying import says_all, sure_by, unlike_at
+from hiddensorts.sewing import sewn, told_matrix
+from hiddensorts.showing import can_show, shows_well
 from hiddensorts.sights import Sights
+from hiddensorts.stakes import Stakes, carried, carried_back, worth_by, worth_of_sorts
 from hiddensorts.sureness import border_spots
 from hiddensorts.tables import Table
 from hiddensorts.tilts import Tilts
@@ -33,8 +48,9 @@ from hiddensorts.untold import link_ends, pair_at, twist_ends
 from hiddensorts.walks import along
 from hiddensorts.webs import Web
 from hiddensorts.worlds import World
+from tests.oracles import beside
 from tests.threes import leaned_sights
-from tests.tools import FAR, HALF, NEAR, random_world
+from tests.tools import FAR, HALF, NEAR, as_it_looks, random_world
 
 ROOT = Path(__file__).resolve().parent.parent
 
@@ -74,6 +90,26 @@ FUNCTIONS = {
     "opening": {"part_by": "leans spots", "opened": "leans asking"},
     "bending": {"turned_spots": "leans", "is_fair": "leans", "squares_of": "leans", "world_of": "leans"},
     "standing": {"balance_range": "sights number", "stand": "sights"},
+    "givens": {"given_sights": "leans spot", "across_link": "leans other x y", "shown_lots": "leans"},
+    "drawings": {"turns": "drawing matrix other", "drawing_for": "matrix other", "draws": "world look other drawing",
+                 "drawn_look": "world look drawing", "drawn_sights": "sights look drawing",
+                 "told_drawing": "sights look other"},
+    "curves": {"curve_of": "tilts look"},
+    "bets": {"bet_worth": "table spot price", "prices": "table spot", "better_price": "table other_table spot"},
+    "across": {"across_factor": "tilts look other", "drawn_where": "frame look other", "one_teller": "tilts side"},
+    "fullness": {"lot_matrix": "world lot", "is_full": "world lot", "pair_matrix": "table lot other",
+                 "table_rank": "table lot other", "dependence": "world lot", "yes_no_full": "points",
+                 "blind_pair": "world lot"},
+    "stakes": {"worth_by": "matrix stakes", "worth_of_sorts": "world lot stakes", "carried": "world lot stakes",
+               "carried_back": "world lot stakes", "knowing": "world stakes"},
+    "parting": {"part_or_draw": "matrix other"},
+    "saying": {"says_all": "world lot other", "sure_by": "world lot third", "unlike_at": "world lot"},
+    "sewing": {"sewn": "web walk", "told_matrix": "web look other"},
+    "founding": {"agrees": "web", "found": "web chances", "found_ringed": "web", "is_of": "web world"},
+    "changing": {"changed": "web world matrix", "change_between": "web world other", "two_of": "web look other",
+                 "apart_number": "matrix"},
+    "showing": {"can_show": "sights look other", "shows_well": "sights lot entries"},
+    "plans": {"to_see": "sights", "a_plan": "sights"},
 }
 CLASSES = {
     ("tables", "Table"): ("asking sizes entries", {
@@ -96,6 +132,28 @@ CLASSES = {
         "heights": "self"}, []),
     ("leans", "Leans"): ("sights number", {
         "lean": "self x", "bend": "self x", "link": "self x y", "balance": "self"}, []),
+    ("drawings", "Drawing"): ("matrix", {
+        "same": "cls size", "__call__": "self numbers", "__mul__": "self other", "__eq__": "self other",
+        "__len__": "self"}, []),
+    ("curves", "Curve"): ("weights tilts", {
+        "height": "self u", "inner": "self", "is_below": "self other", "scaled": "self factor",
+        "least_factor": "self other"}, []),
+    ("stakes", "Stakes"): ("acts", {
+        "__add__": "self other", "__neg__": "self", "__eq__": "self other", "__len__": "self"}, []),
+    ("evens", "EvenWeb"): ("sights", {
+        "seen_matrix": "self look other", "base_of": "self look other", "walk": "self look other odd"}, []),
+    ("desks", "Desk"): ("singles *seen", {
+        "see": "self lot entries", "tried": "self lot entries", "back": "self", "frame": "self number",
+        "told": "self look other", "balances": "self", "__len__": "self", "__iter__": "self"}, ["word", "so_far"]),
+}
+# The attributes that the interface lists, for an object of each of these classes.
+ATTRIBUTES = {
+    "Drawing": "matrix rows columns", "Curve": "weights tilts corners", "Stakes": "acts width",
+    "EvenWeb": "sights rank ringed sides", "News": "lot behind kinds opened_now narrower",
+    "Leans": "sights number looks tilts", "Tilts": "sights number looks ringed sides base",
+    "Table": "asking sizes entries", "Sights": "sizes singles lots", "World": "chances sorts sizes",
+    "Web": "sights pieces loners still", "Oblong": "tilts sights number ringed s_low s_high t_low t_high",
+    "Stretch": "tilts sights number ringed low high",
 }
 # Nothing is promised about calling these classes.
 FRAMES = {
@@ -138,7 +196,30 @@ class InterfaceTest(unittest.TestCase):
                 self.assertEqual(told(vars(found)[method]), wanted, method)
             for method in properties:
                 self.assertIsInstance(vars(found)[method], property)
-        self.assertEqual(inspect.signature(Sights).parameters["seen"].default, ())
+        for found in (Sights, Desk):
+            self.assertEqual(inspect.signature(found).parameters["seen"].default, ())
+        self.assertIn("__eq__", vars(News))
+        self.assertEqual(News.__module__, "hiddensorts.desks")
+        for found, method in ((Table, "rows_of"), (World, "even"), (Drawing, "same")):
+            self.assertIsInstance(vars(found)[method], staticmethod if method == "rows_of" else classmethod)
+
+    def test_attributes(self):
+        world = random_world(150, (2, 3, 2), 2, low=1)
+        sided, ringed = world.sights_of([(0, 1), (1, 2)]), world.sights_of([(0, 1, 2)])
+        objects = [world, world.made((0, 1)), sided, Web(sided), Tilts(sided, 0), frame_of(sided, 0),
+                   frame_of(ringed, 0), Leans(ringed, 0), Drawing.same(2), Curve([1], [0]), Stakes([[1, 2]]),
+                   EvenWeb(sided), Desk([HALF] * 2).see((0, 1), FAR)]
+        self.assertEqual({type(value).__name__ for value in objects}, set(ATTRIBUTES))
+        for value in objects:
+            for word in ATTRIBUTES[type(value).__name__].split():
+                self.assertIn(word, vars(value), type(value).__name__)
+
+    def test_every_module_of_the_document_is_there(self):
+        # Of these, frames stands among the functions, and errors has a test of its own.
+        names = set(FUNCTIONS) | {name for name, _ in CLASSES} | {"errors"}
+        self.assertEqual(len(names), 47)
+        for name in names:
+            self.assertTrue((ROOT / "hiddensorts" / f"{name}.py").is_file(), name)
 
     def test_frames(self):
         for word, methods in FRAMES.items():
@@ -169,7 +250,7 @@ class InterfaceTest(unittest.TestCase):
                 checked += 1
             else:
                 exec(call, names)
-        self.assertEqual(checked, 10)
+        self.assertEqual(checked, 24)
 
 
 class ArgumentsTest(unittest.TestCase):
@@ -196,7 +277,7 @@ class ArgumentsTest(unittest.TestCase):
             (world.sights_of, [[[0, 1], [0, 2]]]), (world.mixed, [1, [[2], [0, 1]]]),
             (made_by_parts, [world, [0, 1]]), (given_world, [world, [0, 1]]), (row_bend, [world, [0, 1], [1, 2]]),
             (along, [sights, [0, 1, 2, 1], [0, 0], [1, 2]]),
-        ] + self.frame_calls(world)
+        ] + self.frame_calls(world) + self.telling_calls(world) + self.web_calls()
 
     def frame_calls(self, world):
         sided, ringed = frame_of(world.sights_of([(0, 1), (1, 2)]), 0), frame_of(world.sights_of([(0, 1, 2)]), 0)
@@ -216,6 +297,43 @@ class ArgumentsTest(unittest.TestCase):
             (cut_worlds, [sided, list(times(sided.s_low, sided.t_low))]),
             (cross_square, [ringed, ringed, [0, 0], [1, 2]]), (leans.lean, [[0, 1]]), (leans.bend, [[1, 1]]),
             (leans.link, [[0, 1], [0, 0]]), (part_by, [leans, [[0, 1], [2, 0], [0, 1]]]), (opened, [leans, [0, 1, 1]]),
+        ]
+
+    def telling_calls(self, world):
+        matrix, whole = [[[1, 2], 1, 0], [[1, 2], 0, 1]], [[1, [1, 2]], [2, 0], [0, 1]]
+        blunt, stakes, table = Drawing(matrix), Stakes([[1, 2], [[1, 2], 3]]), world.made((0, 1))
+        leans = Leans(world.sights_of([(0, 1, 2)]), 0)
+        turned_rows = [list(row) for row in multiply(blunt.matrix, whole)]
+        double = Leans(beside(leans.sights, leans.sights), 0), Leans(beside(leans.sights, leans.sights), 1)
+        curve = Curve([[1, 2], [1, 2]], [1, -1])
+        return [
+            (given_sights, [leans, [0, 1]]), (across_link, [*double, [0, 1], [3, 1]]), (Drawing, [matrix]),
+            (blunt, [[1, [2, 3], 0]]), (turns, [blunt, whole, turned_rows]), (drawing_for, [whole, turned_rows]),
+            (lambda *more: Curve(*more).corners, [[[1, 2], [1, 2]], [1, -1]]), (curve.height, [[1, 3]]),
+            (bet_worth, [table, [0, 1], [1, 3]]), (prices, [table, [1, 2]]), (better_price, [table, table, [0, 0]]),
+            (lot_matrix, [world, [0, 1]]), (is_full, [world, [0]]), (pair_matrix, [world.made((0, 1, 2)), [0], [1, 2]]),
+            (table_rank, [table, [0], [1]]), (dependence, [World.even((2, 2), 2), [0]]),
+            (yes_no_full, [[[0, [1, 2]], [1, 1]]]), (blind_pair, [World.even((2, 2), 2), [0, 1]]),
+            (Stakes, [[[1, [1, 2]], [0, 3]]]), (worth_by, [[[1, [1, 2]]], stakes]),
+            (worth_of_sorts, [world, [0, 1], stakes]), (carried, [world, [0], stakes]),
+            (carried_back, [world, [1], stakes]), (part_or_draw, [whole, turned_rows]),
+            (part_or_draw, [whole, [[3, [3, 2]], [0, 0]]]), (says_all, [world, [0], [1, 2]]),
+            (sure_by, [world, [0, 1], [2]]), (unlike_at, [world, [0, 2]]),
+        ]
+
+    def web_calls(self):
+        world = random_world(153, (2, 3, 2), 2, low=1)
+        sights = world.sights_of([(0, 1), (1, 2)])
+        web = EvenWeb(sights)
+        entries = [list(entry) for entry in world.made((0, 2)).entries]
+        singles = [[list(number) for number in answers] for answers in sights.singles]
+        seen = [[[0, 1], [list(entry) for entry in world.made((0, 1)).entries]], [[0, 2], entries]]
+        desk = Desk(singles, seen=seen[:1])
+        return [
+            (sewn, [web, [0, 1, 2, 1]]), (found, [web, [[1, 3], [2, 3]]]), (changed, [web, world, [[0, 1], [1, 0]]]),
+            (apart_number, [[[1, 0], [[1, 2], 1]]]),
+            (lambda *more: Desk(more[0], seen=more[1]).so_far, [singles, seen]),
+            (desk.tried, [[0, 2], entries]), (shows_well, [sights, [0, 2], entries]),
         ]
 
     def test_arguments_stay_and_tuples_serve(self):
@@ -252,7 +370,8 @@ class ArgumentsTest(unittest.TestCase):
         turned = Leans(leaned_sights([HALF] * 3, [[1, -1]] * 3, Fraction(1, 4), Fraction(9, 10), [(0, 1, 2)]), 0)
         for call in (sights.pairs, sights.linked, lambda: zeros(world), lambda: Table.rows_of(world.made((0,))),
                      lambda: barring(bar, 0), lambda: touching(sights, 0), lambda: border_spots(chain),
-                     lambda: turned_spots(turned)):
+                     lambda: turned_spots(turned), lambda: shown_lots(Leans(random_leaned(), 0)),
+                     lambda: prices(world.made((0, 1)), (0, 0)), lambda: a_plan(chain.sights)):
             first = call()
             self.assertIs(type(first), list)
             kept = list(first)
@@ -273,6 +392,30 @@ class ArgumentsTest(unittest.TestCase):
                       first_rows([[1]]), turned([[1]]), web.sights.lots, world.made([0]).asking, tilts.looks,
                       tilts.sides, tilts.base, tilts.heights(), two_worlds(tilts, [0, 0], [0, 0])):
             self.assertIs(type(value), tuple)
+
+    def test_tuples_where_tuples_are_told_behind_stage_6(self):
+        world = random_world(154, (2, 3, 2), 2, low=1)
+        sights = world.sights_of([[0, 1], [1, 2]])
+        web, dumb = EvenWeb(sights), World.even([2, 2], 2)
+        ring = EvenWeb(world.sights_of([[0, 1, 2]]))
+        curve, desk = Curve([[1, 2], [1, 2]], [1, -1]), Desk([HALF] * 3, seen=[[[0, 1], FAR]])
+        news = desk.tried([1, 2], FAR)
+        for value in (Drawing([[1, 1]]).matrix, Drawing([[1, 1]])([1, 2]), curve.weights, curve.tilts, curve.corners,
+                      curve.inner(), lot_matrix(world, [0]), pair_matrix(world.made([0, 1]), [0], [1]),
+                      dependence(dumb, [0]), blind_pair(dumb, [0]), Stakes([[1]]).acts, web.sides, web.base_of(0, 1),
+                      web.seen_matrix(0, 1), web.walk(0, 1, True), sewn(web, [0, 1]), told_matrix(web, 0, 1),
+                      told_matrix(ring, 1, 1), change_between(web, world, world), two_of(web, 0, 2), news.lot,
+                      news.kinds, news.kinds[0], news.opened_now, desk.balances(), can_show(desk.so_far, 0, 2)):
+            self.assertIs(type(value), tuple)
+        for matrix in (Drawing([[1, 1]]).matrix, lot_matrix(world, [0]), web.seen_matrix(1, 0), sewn(web, [1, 2]),
+                       change_between(web, world, world), told_matrix(ring, 0, 0)):
+            self.assertTrue(as_it_looks(matrix) and all(type(row) is tuple for row in matrix))
+        self.assertEqual((agrees(web), agrees(ring), type(found_ringed(ring))), (None, None, World))
+
+
+def random_leaned():
+    """Sights of a piece with a three of which some lots were not seen."""
+    return leaned_sights([HALF] * 4, [[1, -1]] * 4, Fraction(1, 4), Fraction(1, 9), [(0, 1, 2), (2, 3)])
 
 
 class OrderOfErrorsTest(unittest.TestCase):

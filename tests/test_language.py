@@ -147,6 +147,20 @@ def changes_of(function):
     return rows
 
 
+def is_range_use(node):
+    """Whether a range, or a name that keeps one, is used where it stands."""
+    parent = node.parent
+    if isinstance(parent, (ast.For, ast.comprehension)) and parent.iter is node:
+        return True
+    if isinstance(parent, ast.Subscript) and parent.value is node:
+        return True
+    if isinstance(parent, ast.Compare) and isinstance(parent.ops[0], (ast.In, ast.NotIn)):
+        return parent.comparators == [node]
+    return (isinstance(parent, ast.Call) and isinstance(parent.func, ast.Name)
+            and parent.func.id in ("list", "tuple", "sorted", "sum", "min", "max", "any", "all", "enumerate", "zip",
+                                   "len", "reversed"))
+
+
 class LanguageTest(unittest.TestCase):
 
     def test_files(self):
@@ -300,11 +314,37 @@ class LanguageTest(unittest.TestCase):
                     self.assert_used_at_once(node, name, where)
                 if name in ("zip", "enumerate", "reversed"):
                     self.assert_used_at_once(node, "view", where)
+                if name == "range":
+                    self.assert_range_stays(node, where)
                 if name in BUILTINS:
                     self.assertLessEqual({word.arg for word in node.keywords}, {"start", "key", "default", "reverse"})
             for node in ast.walk(tree):
                 if isinstance(node, ast.SetComp):
                     self.assert_used_at_once(node, "set", f"{path.name}:{node.lineno}")
+
+    def assert_range_stays(self, node, where):
+        """A range is used on the spot, or kept by a name that is only iterated over, measured or indexed."""
+        if not isinstance(node.parent, ast.Assign):
+            self.assertTrue(is_range_use(node), where)
+            return
+        name = node.parent.targets[0].id
+        function = node
+        while not isinstance(function, ast.FunctionDef):
+            function = function.parent
+        uses = [use for use in ast.walk(function) if isinstance(use, ast.Name) and use.id == name
+                and isinstance(use.ctx, ast.Load)]
+        self.assertTrue(uses and all(is_range_use(use) for use in uses), where)
+
+    def test_the_test_of_ranges_sees_what_it_must_refuse(self):
+        for text, good in (("for k in range(3):\n    pass", True), ("f(range(3))", False), ("list(range(3))", True),
+                           ("[k for k in range(3)]", True), ("xs + range(3)", False), ("len(range(3))", True)):
+            tree = ast.parse(text)
+            for node in ast.walk(tree):
+                for child in ast.iter_child_nodes(node):
+                    child.parent = node
+            calls = [node for node in ast.walk(tree) if isinstance(node, ast.Call)
+                     and isinstance(node.func, ast.Name) and node.func.id == "range"]
+            self.assertEqual([is_range_use(call) for call in calls], [good], text)
 
     def assert_used_at_once(self, node, kind, where):
         parent = node.parent
@@ -319,7 +359,7 @@ class LanguageTest(unittest.TestCase):
     def test_operators_and_properties_change_nothing(self):
         package = Package([tree for _, _, tree in trees()])
         self.assertEqual({function.name for function in package.starts()} - {"__add__", "__mul__", "__contains__"},
-                         {"__eq__", "__len__", "fair", "free"})
+                         {"__neg__", "__eq__", "__len__", "fair", "free", "word", "so_far"})
         run = package.run_by(package.starts())
         self.assertLess({"times", "sees", "_teller", "_comes_back", "__init__", "sizes_of"},
                         {function.name for function in run})
