@@ -3,7 +3,7 @@
 from hiddensorts.errors import BadDrawing, BadLook, BadMatrix, BadSingle, BadSize, OtherPiece, OtherSide
 from hiddensorts.fullness import pair_matrix
 from hiddensorts.links import look_spots
-from hiddensorts.lots import LEAST_ANSWERS, MOST_ANSWERS, MOST_LOOKS
+from hiddensorts.lots import LEAST_ANSWERS, MOST_ANSWERS
 from hiddensorts.matrices import matrix_of, multiply, turned
 from hiddensorts.ratios import is_int, is_list, is_number, sign_of, times, total, weighted
 from hiddensorts.sights import Sights
@@ -62,12 +62,6 @@ def turns(drawing, matrix, other):
     return multiply(drawing.matrix, start) == end
 
 
-def judge_width(start, end):
-    """Refuse two matrices that have not as many columns."""
-    if len(start[0]) != len(end[0]):
-        raise BadMatrix()
-
-
 def column_sums(matrix):
     """The sums of the columns of a matrix, a list."""
     return [total(column) for column in turned(matrix)]
@@ -77,7 +71,8 @@ def drawing_for(matrix, other):
     """A Drawing that turns the matrix into the other one; None if there is none."""
     start = matrix_of(matrix)
     end = matrix_of(other)
-    judge_width(start, end)
+    if len(start[0]) != len(end[0]):
+        raise BadMatrix()
     # A drawing leaves the sums of the columns as they are.
     if column_sums(start) != column_sums(end):
         return None
@@ -120,8 +115,6 @@ def drawn_sights(sights, look, drawing):
     singles = drawing(sights.singles[chosen])
     if any([sign_of(single) == 0 for single in singles]):
         raise BadSingle(number)
-    if number == MOST_LOOKS:
-        raise BadSingle(-1)
     seen = [(lot, sights.table(lot).entries) for lot in sights.lots]
     for pair in sights.pairs():
         if chosen in pair:

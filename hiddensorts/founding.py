@@ -31,9 +31,9 @@ def ways(web):
     walks = []
     for look, other in pairs + [(far, near) for near, far in pairs]:
         there = web.walk(0, look, False)
-        onward = web.walk(0, other, True)
-        if there is not None and onward is not None:
-            walks.append(there[::-1] + onward[1:])
+        # Where an even walk leads to the one look, an odd one leads to the other.
+        if there is not None:
+            walks.append(there[::-1] + web.walk(0, other, True)[1:])
     return walks
 
 

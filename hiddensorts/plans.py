@@ -37,7 +37,7 @@ def ring_pair(web, looks, pairs):
     """Two looks of one side of what the linked pairs and these pairs join, all of these looks; they make a ring."""
     steps = steps_by(web.sights.linked() + pairs, len(web.sights.sizes))
     for look in looks:
-        for other, parity in sorted(list(walks_from(look, steps))):
+        for other, parity in walks_from(look, steps):
             if parity == EVEN and other > look:
                 return (look, other)
     return None

@@ -144,9 +144,16 @@ class DrawnWhereTest(unittest.TestCase):
         # One fair world is left: its factor is both ends.
         frame = frame_of(Sights([HALF] * 2, seen=[((0, 1), [(1, 2), 0, 0, (1, 2)])]), 0)
         self.assertEqual((drawn_where(frame, 0, 1), drawn_where(frame, 1, 0)), ("all", "all"))
-        # The factor of the worlds goes from 1/16 to 1; look 2 is drawn from look 0 exactly from 1/4 on, at 1 too.
-        frame = frame_of(Sights([HALF] * 3, seen=CHAIN), 0)
-        self.assertEqual(drawn_where(frame, 2, 1), "some")
+        # Side A has the tilts 1 and 1/2, side B 1/2 and 1/4; the factor goes from 1/4 to 1.
+        seen = [(pair, [ratio((1 + sign * link) / 4) for sign in (1, -1, -1, 1)])
+                for pair, link in (((0, 1), Fraction(1, 2)), ((1, 2), Fraction(1, 4)), ((0, 3), Fraction(1, 4)))]
+        frame = frame_of(Sights([HALF] * 4, seen=seen), 0)
+        self.assertEqual((frame.tilts.sides, factor_ends(frame)), (((0, 2), (1, 3)), ((1, 4), (1, 1))))
+        # Where the least factor is the first one, all worlds draw; where it is the last one, the corner (1, 1) does.
+        self.assertEqual((across_factor(frame.tilts, 0, 3), drawn_where(frame, 0, 3)), ((1, 4), "all"))
+        self.assertEqual((across_factor(frame.tilts, 2, 1), drawn_where(frame, 2, 1)), ((1, 1), "some"))
+        self.assertEqual((across_factor(frame.tilts, 1, 2), drawn_where(frame, 1, 2)), ((1, 1), "all"))
+        self.assertEqual((across_factor(frame.tilts, 3, 0), drawn_where(frame, 3, 0)), ((4, 1), "some"))
 
     def test_refuses(self):
         sided = frame_of(beside(Sights([HALF] * 3, seen=CHAIN), Sights([HALF] * 2, seen=[((0, 1), FAR)])), 0)

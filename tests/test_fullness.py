@@ -57,6 +57,7 @@ class LotMatrixTest(unittest.TestCase):
                 if tie is not None:
                     self.assertTrue(type(tie) is tuple and len(tie) == len(world) and as_it_looks(tie))
                     c = [fraction(number) for number in tie]
+                    self.assertEqual(tie, tuple(ratio(number) for number in c))
                     self.assertTrue(any(c))
                     self.assertEqual(sum(c), 0)
                     for row in chances_by_hand(world, lot):
