@@ -11,7 +11,8 @@ from hiddensorts.worlds import World, chances_of
 
 def near_looks(web, look):
     """The looks seen with a look, ascending, a list."""
-    return [other for other in range(len(web.sights.sizes)) if other != look and web.sights.sees(sorted([look, other]))]
+    pairs = web.sights.pairs()
+    return [other for other in range(len(web.sights.sizes)) if tuple(sorted([look, other])) in pairs]
 
 
 def span_reason(web):
@@ -39,8 +40,8 @@ def ways(web):
 
 def sewn_reason(web):
     """The reason "sewn" of a walk over look 0; None if there is none."""
-    # Where each seen pair closes such a walk as it should, all walks between two looks that are both odd sew the same:
-    # each one is made of these and of steps gone on and back.
+    # Where each of these walks sews what it should, any two odd walks from one look to another sew the same matrix:
+    # each one can be made of such walks and of steps gone on and back.
     for walk in ways(web):
         if sewn(web, walk) != web.seen_matrix(walk[0], walk[-1]):
             return ("sewn", walk)

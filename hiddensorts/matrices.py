@@ -4,15 +4,22 @@ from hiddensorts.errors import BadMatrix
 from hiddensorts.ratios import as_ratio, is_list, is_number, shared_bottom
 
 
+def is_matrix(value):
+    """Whether a value of any kind is a list of at least one list, all of the same length of at least 1, of numbers."""
+    if not is_list(value) or len(value) == 0:
+        return False
+    for row in value:
+        if not is_list(row) or len(row) == 0 or len(row) != len(value[0]):
+            return False
+        if not all([is_number(entry) for entry in row]):
+            return False
+    return True
+
+
 def matrix_of(m):
     """The matrix as a tuple of tuples of ratios."""
-    if not is_list(m) or len(m) == 0:
+    if not is_matrix(m):
         raise BadMatrix()
-    for row in m:
-        if not is_list(row) or len(row) == 0 or len(row) != len(m[0]):
-            raise BadMatrix()
-        if not all([is_number(entry) for entry in row]):
-            raise BadMatrix()
     return tuple([tuple([as_ratio(entry) for entry in row]) for row in m])
 
 

@@ -149,7 +149,7 @@ class Search:
         found = []
         for far in range(self.last + 1):
             numbers = [weights.get((self.last, place), 0) - weights.get((far, place), 0) for place in self.base]
-            found.append([weighted(line, numbers) for line in self.inverted])
+            found.append([weighted(row, numbers) for row in self.inverted])
         return found
 
 

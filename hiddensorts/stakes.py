@@ -2,21 +2,16 @@
 
 from hiddensorts.errors import BadStakes, NotFull
 from hiddensorts.fullness import lot_matrix
-from hiddensorts.matrices import first_rows, inverse, matrix_of, multiply, rows_at
-from hiddensorts.ratios import as_ratio, greatest, is_list, is_number, negative, times, total, weighted
+from hiddensorts.matrices import first_rows, inverse, is_matrix, matrix_of, multiply, rows_at
+from hiddensorts.ratios import greatest, negative, times, total, weighted
 from hiddensorts.splitting import spread
 
 
 def acts_of(value):
     """The acts of stakes, a tuple of tuples of ratios."""
-    if not is_list(value) or len(value) == 0:
+    if not is_matrix(value):
         raise BadStakes()
-    for act in value:
-        if not is_list(act) or len(act) == 0 or len(act) != len(value[0]):
-            raise BadStakes()
-        if not all([is_number(number) for number in act]):
-            raise BadStakes()
-    return tuple([tuple([as_ratio(number) for number in act]) for act in value])
+    return matrix_of(value)
 
 
 class Stakes:
